@@ -1,0 +1,1 @@
+"""Oneparts: fractions as sums of different parts of one."""
