@@ -2,7 +2,7 @@
 
 from math import gcd
 
-from oneparts.errors import InvalidFraction, InvalidSum
+from oneparts.errors import InvalidFraction, InvalidNumber, InvalidSum
 
 GREATEST_LOWER = 30
 LEAST_PART = 2
@@ -13,6 +13,13 @@ MOST_PARTS = 12
 def is_whole(value):
     """Return whether value is an integer; True and False are none."""
     return isinstance(value, int) and not isinstance(value, bool)
+
+
+def check_number(value, least, greatest):
+    """Raise InvalidNumber if value is not an integer from least to greatest."""
+    if not is_whole(value) or not least <= value <= greatest:
+        # The message does not show the value: an object of any kind may fail to be shown.
+        raise InvalidNumber(f"not an integer from {least} to {greatest}")
 
 
 def is_fraction(value):
@@ -28,7 +35,7 @@ def is_fraction(value):
 def check_fraction(value):
     """Raise InvalidFraction if value is not a fraction."""
     if not is_fraction(value):
-        # The message does not show the value: an object of any kind may fail to be shown.
+        # As above, the message does not show the value.
         raise InvalidFraction("not a fraction")
 
 

@@ -73,6 +73,22 @@ def no_integers():
     ]
 
 
+def wrong_numbers(least, greatest):
+    """Return values of many kinds that are no integers from least to greatest."""
+    wrong = no_tuples() + no_integers() + [-(10 ** 5000), -greatest, -least, -1, 0]
+    wrong += [least - 2, least - 1, greatest + 1, greatest + 2, 10 * greatest]
+    # Nothing is asked for floating point numbers, and some of the integers above are right ones.
+    return [
+        value for value in wrong
+        if not isinstance(value, float) and not (type(value) is int and least <= value <= greatest)
+    ]
+
+
+def changeable_values():
+    """Return values that can be changed, or that hold one that can, of which none is a fraction or an integer."""
+    return [[2, 3], [12], [], {2: 3}, {2, 3}, bytearray(b"\x02\x03"), ([2], 3), (2, [3]), ({}, {}), ([2],)]
+
+
 def wrong_fractions():
     """Return values of many kinds that are no fractions."""
     wrong = no_tuples()
