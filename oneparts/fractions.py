@@ -51,11 +51,18 @@ def is_sum(value):
     return True
 
 
-def is_short_sum(value):
-    """Return whether value is a sum of at most 12 parts, none of them above 9999."""
-    if not is_sum(value) or len(value) > MOST_PARTS:
+def is_bounded_sum(value, most_parts, greatest_part):
+    """Return whether value is a sum of at most so many parts, none of them above the greatest one."""
+    if not is_sum(value) or len(value) > most_parts:
         return False
-    return len(value) == 0 or value[-1] <= GREATEST_PART
+    return len(value) == 0 or value[-1] <= greatest_part
+
+
+def check_sum(value, most_parts, greatest_part):
+    """Raise InvalidSum if value is not a sum of at most so many parts, none of them above the greatest one."""
+    if not is_bounded_sum(value, most_parts, greatest_part):
+        # As above, the message does not show the value.
+        raise InvalidSum(f"not a sum of at most {most_parts} parts from {LEAST_PART} to {greatest_part}")
 
 
 def add_up(parts):
@@ -74,8 +81,7 @@ def lowest_terms(upper, lower):
 
 def total(value):
     """Return what the parts of a sum add up to, as a tuple in lowest terms."""
-    if not is_short_sum(value):
-        raise InvalidSum("not a sum of at most 12 parts from 2 to 9999")
+    check_sum(value, MOST_PARTS, GREATEST_PART)
     upper, lower = add_up(value)
     return lowest_terms(upper, lower)
 

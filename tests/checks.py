@@ -4,6 +4,7 @@ import copy
 import time
 from fractions import Fraction
 
+from oneparts.errors import PartError
 from tests import samples
 
 
@@ -82,4 +83,52 @@ def check_quick(case, function):
         with case.subTest(fraction):
             before = time.process_time()
             function(fraction)
+            case.assertLess(time.process_time() - before, 1)
+
+
+def outcome(function, row):
+    """Return what the call with these arguments returns, or the class of the package's error that it raises."""
+    try:
+        return function(*row)
+    except PartError as error:
+        return type(error)
+
+
+def check_all_unchanged(case, function, rows):
+    """Check that the function leaves its arguments as they are, for each of the rows of arguments."""
+    for row in rows:
+        with case.subTest(row):
+            before = copy.deepcopy(row)
+            outcome(function, row)
+            case.assertEqual(row, before)
+
+
+def check_all_repeated(case, function, rows, others):
+    """Check that the function returns the same for each row once more, after all rows and the other ones."""
+    first = [copy.deepcopy(outcome(function, row)) for row in rows]
+    for row in others:
+        outcome(function, row)
+    case.assertEqual([outcome(function, row) for row in rows], first)
+
+
+def check_all_new_lists(case, function, rows):
+    """Check that a returned list that the caller changes does not change what a later call returns."""
+    for row in rows:
+        with case.subTest(row):
+            found = function(*row)
+            case.assertIs(type(found), list)
+            before = list(found)
+            found.append(1000)
+            found.reverse()
+            case.assertEqual(function(*row), before)
+            found.clear()
+            case.assertEqual(function(*row), before)
+
+
+def check_all_quick(case, function, rows):
+    """Check that no call with a row of arguments takes more than a second."""
+    for row in rows:
+        with case.subTest(row):
+            before = time.process_time()
+            outcome(function, row)
             case.assertLess(time.process_time() - before, 1)
